@@ -1,5 +1,7 @@
 """What the document's words say, gone through the long way with Python's sets."""
 
+from math import gcd
+
 TOP = 2 ** 64 - 1
 T_LOW = -(2 ** 63)
 T_HIGH = 2 ** 63 - 1
@@ -41,6 +43,48 @@ def scaled(n, m, a):
 
 def sum_of(n, a, b):
     return number_of({(x + y) % n for x in members(n, a) for y in members(n, b)})
+
+
+def allowed(n, kind, m, t):
+    if not (1 <= m <= n and gcd(m, n) == 1 and 0 <= t < n):
+        return False
+    every_turn, flips, every_factor = kind % 2 == 1, kind // 2 % 2 == 1, kind // 4 == 1
+    return (every_turn or t == 0) and (every_factor or m == 1 or (flips and m == n - 1))
+
+
+def maps(n, kind):
+    return [(m, t) for m in range(n + 1) for t in range(n + 1) if allowed(n, kind, m, t)]
+
+
+def mapped(n, m, t, a):
+    return number_of({(m * x + t) % n for x in members(n, a)})
+
+
+def map_of(n, kind, a, b):
+    """The first map, or None."""
+    return min([pair for pair in maps(n, kind) if mapped(n, *pair, a) == b], default=None)
+
+
+def alike(n, kind, a):
+    """Each set that is alike a, with its first map."""
+    found = {}
+    for m, t in reversed(maps(n, kind)):
+        found[mapped(n, m, t, a)] = (m, t)
+    return found
+
+
+def period(n, a):
+    return min(t for t in range(1, n + 1) if turned(n, t, a) == a)
+
+
+def check_one_set_refusals(case, call, most):
+    """call(n, a) refuses a wrong wheel, whatever the set, and on wheels up to most any bit from n on."""
+    for n in WHEELS_REFUSED:
+        for a in (0, 1, 5, TOP):
+            case.assertEqual([-1], call(n, a), (n, a))
+    for n in range(1, most + 1):
+        for a in (2 ** n, 2 ** n + 1, 2 ** 63, TOP):
+            case.assertEqual([-1], call(n, a), (n, a))
 
 
 def check_repeatable(case, call, rows):

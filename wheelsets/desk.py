@@ -4,8 +4,13 @@ A set of places is a whole number whose bit x is 1 if place x is in it.
 """
 
 MOST_PLACES = 64
+MOST_KIND = 7
+EVERY_TURN = 1
+FLIPS = 2
+EVERY_FACTOR = 4
 DONE = 0
 NOT_FITTING = -1
+NONE_THERE = -2
 
 
 def is_wheel(n):
@@ -14,11 +19,15 @@ def is_wheel(n):
 
 def is_set_of(n, a):
     # The wheel is looked at first: n may be far too great a number to shift by.
-    return is_wheel(n) and a >> n == 0
+    return is_wheel(n) and (a >> n) == 0
+
+
+def is_set_and_kind(n, kind, a):
+    return is_set_of(n, a) and kind <= MOST_KIND
 
 
 def places_of(n, a):
-    return [x for x in range(n) if (a >> x) & 1 == 1]
+    return [x for x in range(n) if ((a >> x) & 1) == 1]
 
 
 def image(n, m, t, a):
@@ -28,6 +37,38 @@ def image(n, m, t, a):
         # Not a sum of bits: two places may come to one.
         result = result | (1 << ((m * x + t) % n))
     return result
+
+
+def common_divisor(x, y):
+    while y != 0:
+        rest = x % y
+        x = y
+        y = rest
+    return x
+
+
+def allowed_factors(n, kind):
+    if (kind & EVERY_FACTOR) != 0:
+        return [m for m in range(1, n + 1) if common_divisor(m, n) == 1]
+    # On a wheel of 1 place n - 1 is 0, which is no factor of a map; on one of 2 it is 1 again.
+    if (kind & FLIPS) != 0 and n > 2:
+        return [1, n - 1]
+    return [1]
+
+
+def allowed_turns(n, kind):
+    if (kind & EVERY_TURN) != 0:
+        return list(range(n))
+    return [0]
+
+
+def allowed_maps(n, kind):
+    """The allowed maps (m, t), by m, then by t."""
+    maps = []
+    for m in allowed_factors(n, kind):
+        for t in allowed_turns(n, kind):
+            maps.append((m, t))
+    return maps
 
 
 def turned(n, t, a):
@@ -55,3 +96,41 @@ def sum_of(n, a, b):
     for y in places_of(n, b):
         result = result | image(n, 1, y, a)
     return [DONE, result]
+
+
+def least(n, kind, a):
+    if not is_set_and_kind(n, kind, a):
+        return [NOT_FITTING]
+    # a is alike itself by the first allowed map of every kind, (1, 0).
+    best = [DONE, a, 1, 0]
+    for m, t in allowed_maps(n, kind):
+        b = image(n, m, t, a)
+        if b < best[1]:
+            best = [DONE, b, m, t]
+    return best
+
+
+def map_of(n, kind, a, b):
+    if not is_set_and_kind(n, kind, a) or not is_set_of(n, b):
+        return [NOT_FITTING]
+    for m, t in allowed_maps(n, kind):
+        if image(n, m, t, a) == b:
+            return [DONE, m, t]
+    return [NONE_THERE]
+
+
+def many(n, kind, a):
+    if not is_set_and_kind(n, kind, a):
+        return [NOT_FITTING]
+    # Several maps may take a to one set, which is counted once.
+    return [DONE, len(set([image(n, m, t, a) for m, t in allowed_maps(n, kind)]))]
+
+
+def period(n, a):
+    if not is_set_of(n, a):
+        return [NOT_FITTING]
+    t = 1
+    # It ends at n at the latest: the whole round brings every set back.
+    while image(n, 1, t, a) != a:
+        t = t + 1
+    return [DONE, t]
