@@ -77,6 +77,33 @@ def period(n, a):
     return min(t for t in range(1, n + 1) if turned(n, t, a) == a)
 
 
+def counts(n, a, b):
+    return [len([1 for x in members(n, a) if (x + d) % n in members(n, b)]) for d in range(n)]
+
+
+def twins(n, a, b):
+    if map_of(n, 3, a, b) is not None:
+        return 2
+    return 1 if counts(n, a, a) == counts(n, b, b) else 0
+
+
+def twin_rows(n):
+    """For each set of n its least twin, or None."""
+    same = {}
+    for a in range(2 ** n):
+        same.setdefault(tuple(counts(n, a, a)), []).append(a)
+    rows = {}
+    for group in same.values():
+        for a in group:
+            rows[a] = min(set(group) - set(alike(n, 3, a)), default=None)
+    return rows
+
+
+def most_often(n, a):
+    """How often the distance from 1 to n - 1 that comes most often comes."""
+    return max(counts(n, a, a)[1:], default=0)
+
+
 def check_one_set_refusals(case, call, most):
     """call(n, a) refuses a wrong wheel, whatever the set, and on wheels up to most any bit from n on."""
     for n in WHEELS_REFUSED:

@@ -8,6 +8,7 @@ MOST_KIND = 7
 EVERY_TURN = 1
 FLIPS = 2
 EVERY_FACTOR = 4
+TURNS_AND_FLIPS = 3
 DONE = 0
 NOT_FITTING = -1
 NONE_THERE = -2
@@ -71,6 +72,31 @@ def allowed_maps(n, kind):
     return maps
 
 
+def alike_sets(n, kind, a):
+    """The sets that are alike a, one for each allowed map: several maps may take a to one set."""
+    return [image(n, m, t, a) for m, t in allowed_maps(n, kind)]
+
+
+def distance_counts(n, a, b):
+    """For each d below n in how many ways a place of b is a place of a plus d."""
+    ways = [0] * n
+    ends = places_of(n, b)
+    for x in places_of(n, a):
+        for y in ends:
+            d = (y - x) % n
+            ways[d] = ways[d] + 1
+    return ways
+
+
+def sets_of_size(n, k):
+    """All sets of n of size k, rising; for small wheels alone, as every set of n is looked at."""
+    return [a for a in range(1 << n) if len(places_of(n, a)) == k]
+
+
+def row_answer(numbers):
+    return [DONE, len(numbers)] + numbers
+
+
 def turned(n, t, a):
     if not is_set_of(n, a):
         return [NOT_FITTING]
@@ -122,8 +148,7 @@ def map_of(n, kind, a, b):
 def many(n, kind, a):
     if not is_set_and_kind(n, kind, a):
         return [NOT_FITTING]
-    # Several maps may take a to one set, which is counted once.
-    return [DONE, len(set([image(n, m, t, a) for m, t in allowed_maps(n, kind)]))]
+    return [DONE, len(set(alike_sets(n, kind, a)))]
 
 
 def period(n, a):
@@ -134,3 +159,40 @@ def period(n, a):
     while image(n, 1, t, a) != a:
         t = t + 1
     return [DONE, t]
+
+
+def counts(n, a, b):
+    if not is_set_of(n, a) or not is_set_of(n, b):
+        return [NOT_FITTING]
+    return row_answer(distance_counts(n, a, b))
+
+
+def twins(n, a, b):
+    if not is_set_of(n, a) or not is_set_of(n, b):
+        return [NOT_FITTING]
+    if b in alike_sets(n, TURNS_AND_FLIPS, a):
+        return [DONE, 2]
+    if distance_counts(n, a, a) == distance_counts(n, b, b):
+        return [DONE, 1]
+    return [DONE, 0]
+
+
+def twin(n, a):
+    if not is_set_of(n, a):
+        return [NOT_FITTING]
+    alike = alike_sets(n, TURNS_AND_FLIPS, a)
+    own = distance_counts(n, a, a)
+    # A twin has the size of a, as that is the count at distance 0.
+    for b in sets_of_size(n, len(places_of(n, a))):
+        if b not in alike and distance_counts(n, b, b) == own:
+            return [DONE, b]
+    return [NONE_THERE]
+
+
+def rule(n, k, most):
+    if not is_wheel(n):
+        return [NOT_FITTING]
+    for a in sets_of_size(n, k):
+        if all([times <= most for times in distance_counts(n, a, a)[1:]]):
+            return [DONE, a]
+    return [NONE_THERE]
