@@ -1,6 +1,9 @@
 """What the document's words say, gone through the long way with Python's sets."""
 
-from math import gcd
+from collections import Counter
+from fractions import Fraction
+from itertools import combinations
+from math import floor, gcd
 
 TOP = 2 ** 64 - 1
 T_LOW = -(2 ** 63)
@@ -102,6 +105,30 @@ def twin_rows(n):
 def most_often(n, a):
     """How often the distance from 1 to n - 1 that comes most often comes."""
     return max(counts(n, a, a)[1:], default=0)
+
+
+def tiles(n, a, b):
+    ways = Counter((x + y) % n for x in members(n, a) for y in members(n, b))
+    return 1 if all(ways[place] == 1 for place in range(n)) else 0
+
+
+def mates(n, a):
+    size = len(members(n, a))
+    if size == 0 or n % size != 0:
+        return []
+    picks = combinations(range(n), n // size)
+    return sorted(b for b in map(number_of, picks) if tiles(n, a, b) == 1)
+
+
+def even(n, k, r):
+    return number_of({floor(Fraction(n * i + r, k)) for i in range(k)})
+
+
+def spans(n, i, a):
+    places = sorted(members(n, a))
+    size = len(places)
+    further = {j: places[j % size] + n * (j // size) for j in range(size + i)}
+    return sorted({further[j + i] - further[j] for j in range(size)})
 
 
 def check_one_set_refusals(case, call, most):

@@ -93,6 +93,25 @@ def sets_of_size(n, k):
     return [a for a in range(1 << n) if len(places_of(n, a)) == k]
 
 
+def without_and_with(y, moved, pairs):
+    """Each pair as it is, then, where no place is come to a second time, with y and the places moved."""
+    more = []
+    for b, reached in pairs:
+        more.append((b, reached))
+        if (reached & moved) == 0:
+            more.append((b | (1 << y), reached | moved))
+    return more
+
+
+def packings(n, a):
+    """Each b with which no place is x + y in two ways, x in a, y in b: pairs of b and the set of the places x + y."""
+    pairs = [(0, 0)]
+    # From the highest place down: so they come by b, rising.
+    for y in range(n - 1, -1, -1):
+        pairs = without_and_with(y, image(n, 1, y, a), pairs)
+    return pairs
+
+
 def row_answer(numbers):
     return [DONE, len(numbers)] + numbers
 
@@ -196,3 +215,38 @@ def rule(n, k, most):
         if all([times <= most for times in distance_counts(n, a, a)[1:]]):
             return [DONE, a]
     return [NONE_THERE]
+
+
+def tiles(n, a, b):
+    if not is_set_of(n, a) or not is_set_of(n, b):
+        return [NOT_FITTING]
+    # y is -x plus a place just where the place is x + y.
+    ways = distance_counts(n, image(n, -1, 0, a), b)
+    return [DONE, 1 if ways == [1] * n else 0]
+
+
+def mates(n, a):
+    if not is_set_of(n, a):
+        return [NOT_FITTING]
+    whole = (1 << n) - 1
+    return row_answer([b for b, reached in packings(n, a) if reached == whole])
+
+
+def even(n, k, r):
+    if not is_wheel(n) or k > n or r >= n:
+        return [NOT_FITTING]
+    result = 0
+    for i in range(k):
+        result = result | (1 << ((n * i + r) // k))
+    return [DONE, result]
+
+
+def spans(n, i, a):
+    if not is_set_of(n, a):
+        return [NOT_FITTING]
+    places = places_of(n, a)
+    if i < 1 or i >= len(places):
+        return [NONE_THERE]
+    # One more round is enough, as i is less than the size.
+    onward = places + [x + n for x in places]
+    return row_answer(sorted(set([onward[j + i] - onward[j] for j in range(len(places))])))
