@@ -1,7 +1,9 @@
 """What the document's words say, gone through the long way with Python's sets."""
 
 from collections import Counter
+from copy import deepcopy
 from fractions import Fraction
+from functools import cache
 from itertools import combinations
 from math import floor, gcd
 
@@ -131,6 +133,54 @@ def spans(n, i, a):
     return sorted({further[j + i] - further[j] for j in range(size)})
 
 
+def level(n, a):
+    rows = [spans(n, i, a) for i in range(1, len(members(n, a)))]
+    if all(len(row) == 1 or (len(row) == 2 and row[1] == row[0] + 1) for row in rows):
+        return 2
+    return 1 if all(len(row) in (1, 2) for row in rows) else 0
+
+
+def divided(weights, by):
+    """Quotient and remainder of polynomials, the lowest power first; by's highest weight is 1."""
+    rest = list(weights)
+    quotient = [0] * max(len(rest) - len(by) + 1, 0)
+    for shift in reversed(range(len(quotient))):
+        quotient[shift] = rest[shift + len(by) - 1]
+        for place, weight in enumerate(by):
+            rest[shift + place] -= quotient[shift] * weight
+    return quotient, rest
+
+
+@cache
+def least_polynomial(order):
+    """The polynomial of lowest power that is 0 at the direction of 1 part of order: the cyclotomic one."""
+    result = [-1] + [0] * (order - 1) + [1]
+    for part in range(1, order):
+        if order % part == 0:
+            result, rest = divided(result, least_polynomial(part))
+            assert not any(rest)
+    return result
+
+
+def cancels(n, d, weights):
+    """The directions d x are the powers of one; which one of its order makes no difference to what is 0."""
+    order = n // gcd(n, d)
+    powers = [0] * order
+    for x, weight in enumerate(weights):
+        powers[x % order] += weight
+    return 0 if any(divided(powers, least_polynomial(order))[1]) else 1
+
+
+def silent(n, a):
+    weights = [1 if x in members(n, a) else 0 for x in range(n)]
+    return [d for d in range(n) if cancels(n, d, weights) == 1]
+
+
+def classes(n, k, kind):
+    sets = sorted(number_of(places) for places in combinations(range(n), k))
+    return [a for a in sets if all(mapped(n, m, t, a) >= a for m, t in maps(n, kind))]
+
+
 def check_one_set_refusals(case, call, most):
     """call(n, a) refuses a wrong wheel, whatever the set, and on wheels up to most any bit from n on."""
     for n in WHEELS_REFUSED:
@@ -142,7 +192,8 @@ def check_one_set_refusals(case, call, most):
 
 
 def check_repeatable(case, call, rows):
-    """Answers are lists of plain ints; a changed answer and calls in between leave no trace."""
+    """Answers are lists of plain ints; what is handed in stays; changed answers and other calls leave no trace."""
+    kept = deepcopy(rows)
     firsts = []
     for row in rows:
         answer = call(*row)
@@ -152,7 +203,6 @@ def check_repeatable(case, call, rows):
         firsts.append(list(answer))
         answer[0] = 98
         answer.append(99)
-    kept = [tuple(row) for row in rows]
     case.assertEqual(firsts, [call(*row) for row in rows])
     case.assertEqual(firsts[::-1], [call(*row) for row in rows[::-1]])
-    case.assertEqual(kept, [tuple(row) for row in rows])
+    case.assertEqual(kept, rows)

@@ -112,6 +112,62 @@ def packings(n, a):
     return pairs
 
 
+def different_spans(n, i, places):
+    """The different spans of i steps, rising; i is from 1 to how many places there are, less 1."""
+    # One more round is enough, as i is less than the size.
+    onward = places + [x + n for x in places]
+    return sorted(set([onward[j + i] - onward[j] for j in range(len(places))]))
+
+
+def primes_dividing(n):
+    primes = []
+    for p in range(2, n + 1):
+        if n % p == 0 and all([p % q != 0 for q in primes]):
+            primes.append(p)
+    return primes
+
+
+def comes_to_nothing(n, d, weights):
+    """Whether the sum of the x-th weight times direction d x is 0, by whole numbers alone."""
+    rest = [0] * n
+    for x in range(n):
+        e = (d * x) % n
+        # Several places may come to one direction.
+        rest[e] = rest[e] + weights[x]
+    # Each step multiplies the sum by 1 less direction n / p, which isn't 0, and takes away all that could
+    # be left on the directions though the sum is 0.
+    for p in primes_dividing(n):
+        t = n // p
+        rest = [rest[e] - rest[(e - t) % n] for e in range(n)]
+    return rest == [0] * n
+
+
+def round_lengths(n, m, t):
+    """The lengths of the rounds in which the map (m, t) takes the places; it leaves a union of rounds as it is."""
+    seen = [False] * n
+    lengths = []
+    for start in range(n):
+        x = start
+        steps = 0
+        while not seen[x]:
+            seen[x] = True
+            x = (m * x + t) % n
+            steps = steps + 1
+        if steps != 0:
+            lengths.append(steps)
+    return lengths
+
+
+def unions_of_size(lengths, k):
+    """How many unions of rounds of these lengths have k places."""
+    ways = [1] + [0] * k
+    for length in lengths:
+        # From the greatest size down, so that no round is taken twice.
+        for size in range(k, length - 1, -1):
+            ways[size] = ways[size] + ways[size - length]
+    return ways[k]
+
+
 def row_answer(numbers):
     return [DONE, len(numbers)] + numbers
 
@@ -247,6 +303,40 @@ def spans(n, i, a):
     places = places_of(n, a)
     if i < 1 or i >= len(places):
         return [NONE_THERE]
-    # One more round is enough, as i is less than the size.
-    onward = places + [x + n for x in places]
-    return row_answer(sorted(set([onward[j + i] - onward[j] for j in range(len(places))])))
+    return row_answer(different_spans(n, i, places))
+
+
+def level(n, a):
+    if not is_set_of(n, a):
+        return [NOT_FITTING]
+    places = places_of(n, a)
+    rows = [different_spans(n, i, places) for i in range(1, len(places))]
+    if all([row[-1] - row[0] <= 1 for row in rows]):
+        return [DONE, 2]
+    if all([len(row) <= 2 for row in rows]):
+        return [DONE, 1]
+    return [DONE, 0]
+
+
+def silent(n, a):
+    if not is_set_of(n, a):
+        return [NOT_FITTING]
+    weights = [(a >> x) & 1 for x in range(n)]
+    return row_answer([d for d in range(n) if comes_to_nothing(n, d, weights)])
+
+
+def cancels(n, d, weights):
+    if not is_wheel(n) or len(weights) != n:
+        return [NOT_FITTING]
+    return [DONE, 1 if comes_to_nothing(n, d, weights) else 0]
+
+
+def count(n, k, kind):
+    if not is_wheel(n) or kind > MOST_KIND:
+        return [NOT_FITTING]
+    if k > n:
+        return [NONE_THERE]
+    maps = allowed_maps(n, kind)
+    # Sets alike one another have together as many pairs of a map and a set that it leaves as it is as there are maps.
+    pairs = sum([unions_of_size(round_lengths(n, m, t), k) for m, t in maps])
+    return [DONE, pairs // len(maps)]
