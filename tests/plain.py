@@ -4,7 +4,7 @@ from collections import Counter
 from copy import deepcopy
 from fractions import Fraction
 from functools import cache
-from itertools import combinations
+from itertools import combinations, permutations
 from math import floor, gcd
 
 TOP = 2 ** 64 - 1
@@ -179,6 +179,17 @@ def silent(n, a):
 def classes(n, k, kind):
     sets = sorted(number_of(places) for places in combinations(range(n), k))
     return [a for a in sets if all(mapped(n, m, t, a) >= a for m, t in maps(n, kind))]
+
+
+def way(n, x, y):
+    return min(abs(x - y), n - abs(x - y))
+
+
+def move(n, a, b):
+    """The least sum and the first row that has it, of all rows."""
+    starts = sorted(members(n, a))
+    rows = permutations(sorted(members(n, b)))
+    return min((sum(way(n, x, y) for x, y in zip(starts, row, strict=True)), list(row)) for row in rows)
 
 
 def check_one_set_refusals(case, call, most):

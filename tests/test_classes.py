@@ -1,4 +1,7 @@
-"""Promise 20: count."""
+"""Promises 20 to 23: count, kth, number, classes.
+
+No wheel of 13 to 64 places is handed in to the last three.
+"""
 
 import unittest
 from collections import Counter
@@ -6,8 +9,8 @@ from itertools import combinations
 from math import comb, gcd
 
 import plain
-from plain import TOP, WHEELS_REFUSED
-from wheelsets.desk import count
+from plain import TOP, WHEELS_REFUSED, full, number_of, some_sets
+from wheelsets.desk import classes, count, kth, least, number
 
 KINDS_REFUSED = (8, 9, 15, 16, 64, 2 ** 32, 2 ** 63, TOP)
 
@@ -106,7 +109,7 @@ class Count(unittest.TestCase):
                 self.assertEqual([0, orbits(n, 3, kind)], count(n, 3, kind), (n, kind))
 
     def test_sizes_0_and_n(self):
-        for n in range(1, 65):
+        for n in list(range(1, 33)) + [48, 61, 63, 64]:
             for kind in range(8):
                 self.assertEqual([0, 1], count(n, 0, kind), (n, kind))
                 self.assertEqual([0, 1], count(n, n, kind), (n, kind))
@@ -141,8 +144,8 @@ class Count(unittest.TestCase):
                 self.assertEqual([0, (comb(n, k) + kept) // 2], count(n, k, 2), (n, k))
 
     def test_the_rest_of_the_wheel_has_as_many(self):
-        for n in (31, 60, 61, 64):
-            for k in (0, 1, 7, n // 2):
+        for n in (31, 60, 64):
+            for k in (1, 7, n // 2):
                 for kind in range(8):
                     self.assertEqual(count(n, k, kind), count(n, n - k, kind), (n, k, kind))
 
@@ -155,7 +158,7 @@ class Count(unittest.TestCase):
         for n in (36, 60, 61, 63, 64):
             for kind in (3, 4, 5, 6, 7):
                 told = by_places_that_stay(n, kind)
-                for k in (4, 11, n // 3, n // 2, n - 1):
+                for k in (4, 11, n // 2):
                     self.assertEqual([0, told[k]], count(n, k, kind), (n, k, kind))
 
     def test_k_above_n(self):
@@ -179,6 +182,220 @@ class Count(unittest.TestCase):
     def test_repeatable(self):
         rows = [(12, 3, 7), (64, 32, 5), (5, 6, 1), (0, 0, 0), (65, 1, 1), (5, 6, 8), (5, TOP, TOP)]
         plain.check_repeatable(self, count, rows)
+
+
+class Kth(unittest.TestCase):
+    def test_ordinary(self):
+        self.assertEqual([0, 0b0101], kth(4, 2, 1, 1))
+        self.assertEqual([0, 0b0110], kth(4, 2, 0, 2))
+        self.assertEqual([0, 0b1100], kth(4, 2, 0, 5))
+        self.assertEqual([0, number_of({0, 4, 8})], kth(12, 3, 3, 11))
+        self.assertEqual([0, number_of({0, 2, 4, 6, 8, 10})], kth(12, 6, 7, 33))
+
+    def test_first_and_last_and_one_above(self):
+        for n in (1, 2, 3, 8, 12):
+            for k in (0, 1, 5, 6, 12) if n == 12 else range(n + 1):
+                for kind in range(8):
+                    told = plain.classes(n, k, kind)
+                    self.assertEqual([0, told[0]], kth(n, k, kind, 0), (n, k, kind))
+                    self.assertEqual([0, told[-1]], kth(n, k, kind, len(told) - 1), (n, k, kind))
+                    self.assertEqual([-2], kth(n, k, kind, len(told)), (n, k, kind))
+
+    def test_far_above(self):
+        for n in (1, 2, 5, 12):
+            for k in (0, 1, n // 2, n):
+                for i in (2 ** n, 2 ** 32, 2 ** 63, TOP):
+                    self.assertEqual([-2], kth(n, k, 1, i), (n, k, i))
+
+    def test_sizes_0_and_n(self):
+        for n in range(1, 13):
+            for kind in range(8):
+                self.assertEqual([0, 0], kth(n, 0, kind, 0))
+                self.assertEqual([0, full(n)], kth(n, n, kind, 0))
+                self.assertEqual([-2], kth(n, 0, kind, 1))
+                self.assertEqual([-2], kth(n, n, kind, 1))
+
+    def test_k_above_n(self):
+        for n in range(1, 13):
+            for k in (n + 1, n + 2, 64, 65, 2 ** 63, TOP):
+                for i in (0, 1, TOP):
+                    self.assertEqual([-2], kth(n, k, 3, i), (n, k, i))
+
+    def test_every_one(self):
+        for n in range(1, 8):
+            for k in range(n + 1):
+                for kind in range(8):
+                    for i, told in enumerate(plain.classes(n, k, kind)):
+                        self.assertEqual([0, told], kth(n, k, kind, i), (n, k, kind, i))
+
+    def test_wheels_refused(self):
+        for n in WHEELS_REFUSED:
+            for k in (0, 1, TOP):
+                for kind in (0, 7, 8, TOP):
+                    for i in (0, TOP):
+                        self.assertEqual([-1], kth(n, k, kind, i), (n, k, kind, i))
+
+    def test_kinds_refused_before_the_rest(self):
+        for n in (1, 2, 12):
+            for kind in KINDS_REFUSED:
+                for k in (0, 1, n, n + 1, TOP):
+                    for i in (0, 1, TOP):
+                        self.assertEqual([-1], kth(n, k, kind, i), (n, k, kind, i))
+
+    def test_repeatable(self):
+        rows = [(12, 3, 3, 11), (12, 3, 3, 12), (4, 2, 1, 1), (4, 5, 1, 0), (0, 0, 0, 0), (65, 1, 1, 0),
+                (5, 2, 8, 0), (5, TOP, TOP, TOP)]
+        plain.check_repeatable(self, kth, rows)
+
+
+class Number(unittest.TestCase):
+    def test_their_own_least(self):
+        self.assertEqual([0, 0], number(12, 3, number_of({0, 1, 2})))
+        self.assertEqual([0, 11], number(12, 3, number_of({0, 4, 8})))
+        self.assertEqual([0, 1], number(4, 1, 0b0101))
+        self.assertEqual([0, 5], number(4, 0, 0b1100))
+
+    def test_others(self):
+        self.assertEqual([0, 0], number(12, 3, number_of({3, 4, 5})))
+        self.assertEqual([0, 11], number(12, 3, number_of({3, 7, 11})))
+        self.assertEqual([0, 1], number(4, 1, 0b1010))
+        self.assertEqual([0, 0], number(4, 1, 0b1001))
+        major, minor = number_of({0, 4, 7}), number_of({0, 3, 7})
+        self.assertEqual(number(12, 3, minor), number(12, 3, major))
+        self.assertNotEqual(number(12, 1, minor), number(12, 1, major))
+
+    def test_sizes_0_and_n(self):
+        for n in range(1, 13):
+            for kind in range(8):
+                self.assertEqual([0, 0], number(n, kind, 0))
+                self.assertEqual([0, 0], number(n, kind, full(n)))
+
+    def test_the_last_place_alone(self):
+        for n in range(1, 13):
+            self.assertEqual([0, n - 1], number(n, 0, 2 ** (n - 1)))
+            self.assertEqual([0, 0], number(n, 1, 2 ** (n - 1)))
+            self.assertEqual([0, 0 if n == 1 else 1], number(n, 2, 2 ** (n - 1)))
+
+    def test_against_the_words(self):
+        for n in range(1, 9):
+            for kind in range(8):
+                told = {}
+                for k in range(n + 1):
+                    for i, one in enumerate(plain.classes(n, k, kind)):
+                        told.update(dict.fromkeys(plain.alike(n, kind, one), i))
+                for a in range(2 ** n) if n < 8 else some_sets(n):
+                    self.assertEqual([0, told[a]], number(n, kind, a), (n, kind, a))
+
+    def test_widest_wheel(self):
+        picked = ({11}, {0, 4, 7}, {1, 2, 5, 7, 11}, {2, 5, 6, 9, 10, 11}, {1, 3, 4, 5, 6, 7, 9, 10, 11})
+        for a in map(number_of, picked):
+            for kind in range(8):
+                told = plain.classes(12, len(plain.members(12, a)), kind).index(min(plain.alike(12, kind, a)))
+                self.assertEqual([0, told], number(12, kind, a), (kind, a))
+
+    def test_set_and_wheel_refused(self):
+        for kind in (0, 1, 7, 8, TOP):
+            plain.check_one_set_refusals(self, lambda n, a: number(n, kind, a), 12)
+
+    def test_kinds_refused(self):
+        for n in (1, 2, 12):
+            for kind in KINDS_REFUSED:
+                for a in (0, 1, full(n), 2 ** n):
+                    self.assertEqual([-1], number(n, kind, a), (n, kind, a))
+
+    def test_repeatable(self):
+        rows = [(12, 3, 145), (12, 0, 145), (4, 1, 10), (0, 0, 0), (65, 1, 1), (3, 1, 8), (3, 8, 1)]
+        plain.check_repeatable(self, number, rows)
+
+
+class Classes(unittest.TestCase):
+    def test_ordinary(self):
+        self.assertEqual([0, 6, 3, 5, 6, 9, 10, 12], classes(4, 2, 0))
+        self.assertEqual([0, 2, 3, 5], classes(4, 2, 1))
+        self.assertEqual([0, 4, 3, 5, 6, 10], classes(4, 2, 2))
+        self.assertEqual([0, 3, 1, 2, 4], classes(4, 1, 2))
+        self.assertEqual([0, 3, 1, 2, 4], classes(4, 1, 4))
+        self.assertEqual([0, 2, 7, 11], classes(7, 3, 5))
+
+    def test_trichords(self):
+        told = [{0, 1, 2}, {0, 1, 3}, {0, 1, 4}, {0, 2, 4}, {0, 1, 5}, {0, 2, 5}, {0, 1, 6}, {0, 2, 6}, {0, 3, 6},
+                {0, 2, 7}, {0, 3, 7}, {0, 4, 8}]
+        self.assertEqual([0, 12] + sorted(number_of(places) for places in told), classes(12, 3, 3))
+
+    def test_sizes_0_and_n(self):
+        for n in range(1, 13):
+            for kind in range(8):
+                self.assertEqual([0, 1, 0], classes(n, 0, kind))
+                self.assertEqual([0, 1, full(n)], classes(n, n, kind))
+
+    def test_k_above_n_is_a_row_of_none(self):
+        for n in range(1, 13):
+            for k in (n + 1, n + 2, 64, 65, 2 ** 63, TOP):
+                for kind in range(8):
+                    self.assertEqual([0, 0], classes(n, k, kind), (n, k, kind))
+
+    def test_against_the_words(self):
+        for n in range(1, 10):
+            for k in range(n + 1):
+                for kind in range(8):
+                    told = plain.classes(n, k, kind)
+                    self.assertEqual([0, len(told)] + told, classes(n, k, kind), (n, k, kind))
+
+    def test_widest_wheel(self):
+        for k in (1, 2, 5, 6, 7, 11):
+            for kind in range(8):
+                told = plain.classes(12, k, kind)
+                self.assertEqual([0, len(told)] + told, classes(12, k, kind), (k, kind))
+                self.assertEqual(sorted(set(told)), told)
+
+    def test_wheels_refused(self):
+        for n in WHEELS_REFUSED:
+            for k in (0, 1, n, TOP):
+                for kind in (0, 7, 8, TOP):
+                    self.assertEqual([-1], classes(n, k, kind), (n, k, kind))
+
+    def test_kinds_refused(self):
+        for n in (1, 2, 12):
+            for kind in KINDS_REFUSED:
+                for k in (0, 1, n, n + 1, TOP):
+                    self.assertEqual([-1], classes(n, k, kind), (n, k, kind))
+
+    def test_repeatable(self):
+        rows = [(12, 3, 3), (4, 2, 0), (4, 5, 0), (0, 0, 0), (65, 1, 1), (5, 2, 8), (5, TOP, TOP)]
+        plain.check_repeatable(self, classes, rows)
+
+
+class Together(unittest.TestCase):
+    """Counts, numbers and k-ths are of the classes as they're told one after another."""
+
+    def test_count_is_how_many_classes_there_are(self):
+        for n in range(1, 13):
+            for k in range(n + 1):
+                for kind in range(8):
+                    told = classes(n, k, kind)
+                    self.assertEqual([0, told[1]], count(n, k, kind), (n, k, kind))
+                    self.assertEqual(told[1], len(told[2:]))
+
+    def test_kth_of_the_number_is_the_least(self):
+        for n in (1, 2, 3, 4, 5, 6, 7):
+            for kind in range(8):
+                for a in range(2 ** n):
+                    self.check_one(n, kind, a)
+        for kind in range(8):
+            for a in some_sets(12):
+                self.check_one(12, kind, a)
+
+    def check_one(self, n, kind, a):
+        size = len(plain.members(n, a))
+        told = kth(n, size, kind, number(n, kind, a)[1])
+        self.assertEqual(least(n, kind, a)[:2], told, (n, kind, a))
+
+    def test_number_of_the_kth_is_i(self):
+        for n in (5, 8):
+            for k in range(n + 1):
+                for kind in range(8):
+                    for i in range(count(n, k, kind)[1]):
+                        self.assertEqual([0, i], number(n, kind, kth(n, k, kind, i)[1]), (n, k, kind, i))
 
 
 if __name__ == "__main__":

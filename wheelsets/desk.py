@@ -93,22 +93,13 @@ def sets_of_size(n, k):
     return [a for a in range(1 << n) if len(places_of(n, a)) == k]
 
 
-def without_and_with(y, moved, pairs):
-    """Each pair as it is, then, where no place is come to a second time, with y and the places moved."""
-    more = []
-    for b, reached in pairs:
-        more.append((b, reached))
-        if (reached & moved) == 0:
-            more.append((b | (1 << y), reached | moved))
-    return more
-
-
 def packings(n, a):
     """Each b with which no place is x + y in two ways, x in a, y in b: pairs of b and the set of the places x + y."""
     pairs = [(0, 0)]
-    # From the highest place down: so they come by b, rising.
-    for y in range(n - 1, -1, -1):
-        pairs = without_and_with(y, image(n, 1, y, a), pairs)
+    # From the lowest place up: so they come by b, rising.
+    for y in range(n):
+        moved = image(n, 1, y, a)
+        pairs = pairs + [(b | (1 << y), reached | moved) for b, reached in pairs if (reached & moved) == 0]
     return pairs
 
 
@@ -166,6 +157,38 @@ def unions_of_size(lengths, k):
         for size in range(k, length - 1, -1):
             ways[size] = ways[size] + ways[size - length]
     return ways[k]
+
+
+def class_row(n, k, kind):
+    """The classes of size k, rising; for small wheels alone."""
+    row = []
+    seen = {}
+    for a in sets_of_size(n, k):
+        # Sets come rising: the first of those that are alike is their least.
+        if a not in seen:
+            row.append(a)
+            for b in alike_sets(n, kind, a):
+                seen[b] = True
+    return row
+
+
+def way(n, x, y):
+    return min((y - x) % n, (x - y) % n)
+
+
+def least_move(n, starts, ends):
+    """The least sum of ways and the first row that has it; there are as many starts as ends."""
+    # For each choice of ends, by its number as a set: the best that the last starts can do with just these.
+    best = [(0, [])]
+    for choice in range(1, 1 << len(ends)):
+        picks = places_of(len(ends), choice)
+        x = starts[len(starts) - len(picks)]
+        tries = []
+        for j in picks:
+            rest = best[choice - (1 << j)]
+            tries.append((way(n, x, ends[j]) + rest[0], [ends[j]] + rest[1]))
+        best.append(min(tries))
+    return best[-1]
 
 
 def row_answer(numbers):
@@ -340,3 +363,36 @@ def count(n, k, kind):
     # Sets alike one another have together as many pairs of a map and a set that it leaves as it is as there are maps.
     pairs = sum([unions_of_size(round_lengths(n, m, t), k) for m, t in maps])
     return [DONE, pairs // len(maps)]
+
+
+def kth(n, k, kind, i):
+    if not is_wheel(n) or kind > MOST_KIND:
+        return [NOT_FITTING]
+    row = class_row(n, k, kind)
+    if i >= len(row):
+        return [NONE_THERE]
+    return [DONE, row[i]]
+
+
+def number(n, kind, a):
+    if not is_set_and_kind(n, kind, a):
+        return [NOT_FITTING]
+    row = class_row(n, len(places_of(n, a)), kind)
+    return [DONE, row.index(min(alike_sets(n, kind, a)))]
+
+
+def classes(n, k, kind):
+    if not is_wheel(n) or kind > MOST_KIND:
+        return [NOT_FITTING]
+    return row_answer(class_row(n, k, kind))
+
+
+def move(n, a, b):
+    if not is_set_of(n, a) or not is_set_of(n, b):
+        return [NOT_FITTING]
+    starts = places_of(n, a)
+    ends = places_of(n, b)
+    if len(starts) != len(ends):
+        return [NONE_THERE]
+    best = least_move(n, starts, ends)
+    return [DONE, best[0], len(ends)] + best[1]
